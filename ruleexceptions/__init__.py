@@ -1,0 +1,1 @@
+"""Rules with exceptions: the calls are answered by ruleexceptions.code."""
