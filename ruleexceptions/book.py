@@ -4,9 +4,15 @@ WRONG = -1
 MISSING = -2
 ALREADY = -3
 FULL = -5
+UNSHOWN = -6
 
-# 0 is rank, 1 special, 2 day.
+RANK = 0
+SPECIAL = 1
+# Rank, special, day.
 ORDER_AT_FIRST = (0, 1, 2)
+
+STRICT = 0
+GUARD = 2
 
 LAST_STATEMENT = 20
 MOST_FACTS = 20

@@ -6,6 +6,11 @@ FACT = 2
 UNFACT = 3
 RULE = 4
 FIRST = 5
+ASK = 6
+WHY = 7
+BEFORE = 8
+ALL = 9
+CHANGES = 10
 FEWEST = 11
 
 # By a call's number: how many whole numbers stand behind it, ahead of its row if it has one.

@@ -8,6 +8,9 @@ TOP = 4294967295
 BOTTOM = -2147483648
 
 BEGINS = [0]
+ALL = [9]
+
+STRICT, USUAL, GUARD = 0, 1, 2
 
 
 def order(*three):
@@ -28,6 +31,26 @@ def rule(said=1, conditions=(), kind=1, rank=0, day=0):
 
 def first(one, other):
     return [5, one, other]
+
+
+def ask(statement):
+    return [6, statement]
+
+
+def why(statement):
+    return [7, statement]
+
+
+def before(one, other):
+    return [8, one, other]
+
+
+def changes(statement):
+    return [10, statement]
+
+
+def fewest(statement, *some):
+    return [11, statement, len(some), *some]
 
 
 def joined(calls):
@@ -55,6 +78,10 @@ def answered(*calls):
 
 def last(*calls):
     return answered(*calls)[-1]
+
+
+def asked_after(told, *statements):
+    return answered(*told, *[ask(statement) for statement in statements])[len(told):]
 
 
 def book_after(*calls):

@@ -114,6 +114,17 @@ class Steps(unittest.TestCase):
             self.assertEqual(len(names), len(set(names)), path)
 
 
+class Loops(unittest.TestCase):
+    def test_no_function_comes_back_to_itself(self):
+        calls = {node.name: {part.func.id for part in ast.walk(node)
+                             if isinstance(part, ast.Call) and isinstance(part.func, ast.Name)}
+                 for _, node in steps(ast.FunctionDef)}
+        while calls:
+            free = [name for name in calls if not calls[name] & set(calls)]
+            self.assertNotEqual(free, [], "functions call one another in a ring")
+            calls = {name: calls[name] for name in calls if name not in free}
+
+
 class Names(unittest.TestCase):
     def test_imports(self):
         drawn = {}
@@ -143,6 +154,15 @@ class Names(unittest.TestCase):
     def test_of_pythons_own_methods_only_those_listed(self):
         for path, node in steps(ast.Attribute):
             self.assertNotIn(node.attr, OTHERS_METHODS | NAMES_OUT, (path, node.lineno))
+
+    def test_no_local_is_called_like_a_class_or_an_import(self):
+        for path, tree in trees():
+            taken = {part.name for node in tree.body if isinstance(node, ast.ImportFrom) for part in node.names}
+            taken |= {node.name for node in tree.body if isinstance(node, ast.ClassDef)}
+            inner = [name for node in tree.body if isinstance(node, (ast.FunctionDef, ast.ClassDef))
+                     for part in node.body for name in bound_names(part)]
+            inner += [node.arg for node in ast.walk(tree) if isinstance(node, ast.arg)]
+            self.assertEqual(taken & set(inner), set(), path)
 
     def test_a_method_is_no_value(self):
         methods = {part.name for _, node in steps(ast.ClassDef) for part in node.body if hasattr(part, "name")}
